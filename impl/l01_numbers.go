@@ -31,11 +31,7 @@ func QuotientBounds(a int64, b int64) (int64, int64, int64) {
 	if code := divisionError(a, b); code != ErrNone {
 		return 0, 0, code
 	}
-	down := floorQuotient(a, b)
-	if down*b == a {
-		return down, down, ErrNone
-	}
-	return down, down + 1, ErrNone
+	return floorQuotient(a, b), ceilingQuotient(a, b), ErrNone
 }
 
 // NearestQuotient returns the nearest integer of a / b, and ErrNone. Errors: as for
@@ -173,6 +169,11 @@ func floorQuotient(a int64, b int64) int64 {
 		return quotient - 1
 	}
 	return quotient
+}
+
+// ceilingQuotient returns a / b rounded up.
+func ceilingQuotient(a int64, b int64) int64 {
+	return -floorQuotient(-a, b)
 }
 
 // rootDown returns the greatest integer whose square is at most n, for n in 0..MaxSquare. Halving
