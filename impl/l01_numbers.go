@@ -70,10 +70,7 @@ func CommonDivisor(a int64, b int64) (int64, int64) {
 	if !isValue(a) || !isValue(b) {
 		return 0, ErrRange
 	}
-	for b != 0 {
-		a, b = b, a%b
-	}
-	return absolute(a), ErrNone
+	return greatestDivisor(a, b), ErrNone
 }
 
 // MedianOf returns the element of a list with the index (n - 1) / 2, rounded down, of the n
@@ -148,6 +145,20 @@ func absolute(x int64) int64 {
 		return -x
 	}
 	return x
+}
+
+// signed are the types of integers whose common divisors are searched.
+type signed interface {
+	~int | ~int64
+}
+
+// greatestDivisor returns the greatest integer of at least 0 that divides a and b, which are not
+// the least number of their type, because that one has no opposite.
+func greatestDivisor[T signed](a T, b T) T {
+	for b != 0 {
+		a, b = b, a%b
+	}
+	return max(a, -a)
 }
 
 // divisionError returns the error of a quotient a / b, or ErrNone.
