@@ -3,6 +3,7 @@ package impl
 import (
 	"slices"
 	"strconv"
+	"strings"
 )
 
 const (
@@ -134,6 +135,22 @@ func ReadMetres(s string) (int64, bool) {
 		return 0, false
 	}
 	return n, true
+}
+
+// readPair returns the numbers before and behind the first separator of s, and true, or zeros and
+// false if they are not both there. It also takes signs and zeros that no text has, so that a
+// caller has to compare s with the text of what was read.
+func readPair(s string, separator string) (int64, int64, bool) {
+	left, right, _ := strings.Cut(s, separator)
+	first, err := strconv.ParseInt(left, 10, 64)
+	if err != nil {
+		return 0, 0, false
+	}
+	second, err := strconv.ParseInt(right, 10, 64)
+	if err != nil {
+		return 0, 0, false
+	}
+	return first, second, true
 }
 
 func isValue(x int64) bool {
