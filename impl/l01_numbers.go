@@ -41,15 +41,7 @@ func NearestQuotient(a int64, b int64) (int64, int64) {
 	if code := divisionError(a, b); code != ErrNone {
 		return 0, code
 	}
-	down := floorQuotient(a, b)
-	// The distances to down and to down + 1, both times the absolute value of b.
-	below := absolute(a - down*b)
-	above := absolute(b) - below
-	isTie := below == above
-	if below > above || isTie && down%2 != 0 {
-		return down + 1, ErrNone
-	}
-	return down, ErrNone
+	return nearestQuotient(a, b), ErrNone
 }
 
 // RootBounds returns the greatest integer whose square is at most n, the least one of at least 0
@@ -202,6 +194,19 @@ func floorQuotient(a int64, b int64) int64 {
 // ceilingQuotient returns a / b rounded up.
 func ceilingQuotient(a int64, b int64) int64 {
 	return -floorQuotient(-a, b)
+}
+
+// nearestQuotient returns the nearest integer of a / b, which need not be values.
+func nearestQuotient(a int64, b int64) int64 {
+	down := floorQuotient(a, b)
+	// The distances to down and to down + 1, both times the absolute value of b.
+	below := absolute(a - down*b)
+	above := absolute(b) - below
+	isTie := below == above
+	if below > above || isTie && down%2 != 0 {
+		return down + 1
+	}
+	return down
 }
 
 // rootDown returns the greatest integer whose square is at most n, for n in 0..MaxSquare. Halving
